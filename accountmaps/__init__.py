@@ -1,0 +1,1 @@
+"""Accountmaps: a house of accounts in which every deed is one map."""
