@@ -36,7 +36,7 @@ def script_for_piece(names, piece):
     matrix, amounts = piece
     rows, steps = led_to_triangle(matrix)
     deeds = triangle_deeds(names, rows)
-    for place, other, often in reversed(steps):
+    for place, other, often in reversed(list(steps)):
         deeds.append(("swap", names[place], names[other]))
         deeds.extend(put_deeds(names[place], often, names[other]))
     return deeds + [("put", name, ("number", amount)) for name, amount in zip(names, amounts) if amount != 0]

@@ -10,6 +10,7 @@ FILES = sorted(path for path in PACKAGE.rglob("*") if "__pycache__" not in path.
 TREES = [(path.name, ast.parse(path.read_text())) for path in FILES if path.suffix == ".py"]
 BUILTINS = """len range enumerate zip min max sum abs sorted reversed int str bool list tuple dict set isinstance ord
 repr any all divmod property ValueError TypeError KeyError IndexError LookupError NotImplemented""".split()
+CHANGING = "append clear extend insert pop remove reverse setdefault update".split()
 DOUBLE = "__init__ __eq__ __repr__ __str__ __len__ __iter__ __getitem__".split()
 BARRED = (ast.GeneratorExp, ast.Global, ast.AsyncFunctionDef, ast.Await, ast.Div, ast.Set, ast.SetComp)
 
@@ -17,6 +18,12 @@ BARRED = (ast.GeneratorExp, ast.Global, ast.AsyncFunctionDef, ast.Await, ast.Div
 def nodes(kind):
     """All tuples (file, node) of a kind."""
     return [(name, node) for name, tree in TREES for node in ast.walk(tree) if isinstance(node, kind)]
+
+
+def calls_of(called):
+    """All tuples (file, call) of the calls of a builtin or a function by its bare name."""
+    return [(name, node) for name, node in nodes(ast.Call)
+            if isinstance(node.func, ast.Name) and node.func.id == called]
 
 
 class TestLanguage(unittest.TestCase):
@@ -64,6 +71,64 @@ class TestLanguage(unittest.TestCase):
             self.assertFalse(isinstance(node.value, str) and "\x25" in node.value, name)
         for name, node in nodes(ast.Attribute):
             self.assertNotEqual(node.attr, "sort", name)
+
+    def test_reversed(self):
+        # House has [ ], so `reversed` stands over what plainly is a list or a range.
+        for name, node in calls_of("reversed"):
+            told = node.args[0]
+            plain = isinstance(told, ast.Call) and isinstance(told.func, ast.Name)
+            plain = plain and told.func.id in ("list", "tuple", "sorted", "range")
+            self.assertTrue(plain or isinstance(told, (ast.List, ast.Tuple, ast.Constant)), (name, node.lineno))
+
+    def test_stars_and_keywords_of_builtins(self):
+        for name, node in nodes(ast.Call):
+            called = node.func.id if isinstance(node.func, ast.Name) else None
+            if any(isinstance(one, ast.Starred) for one in node.args):
+                self.assertIn(called, ["zip", "min", "max"], (name, node.lineno))
+            allowed = {"sorted": ["key", "reverse"], "min": ["key", "default"], "max": ["key", "default"],
+                       "sum": ["start"], "enumerate": ["start"], "zip": ["strict"]}
+            if called in BUILTINS + ["gcd", "lcm"]:
+                self.assertLessEqual({one.arg for one in node.keywords}, set(allowed.get(called, [])), name)
+
+    def test_names_of_imports_and_classes_are_not_taken(self):
+        for name, tree in TREES:
+            held = [node for node in tree.body if isinstance(node, ast.ClassDef)]
+            taken = {node.name for node in held}
+            taken |= {one.name for node in tree.body if isinstance(node, ast.ImportFrom) for one in node.names}
+            own = [node.name for node in tree.body if isinstance(node, (ast.ClassDef, ast.FunctionDef))]
+            self.assertEqual(len(own), len(set(own)), name)
+            found = {node.arg for node in ast.walk(tree) if isinstance(node, ast.arg)}
+            found |= {node.id for node in ast.walk(tree) if isinstance(node, ast.Name) and isinstance(node.ctx, ast.Store)}
+            self.assertEqual((taken | set(dir(builtins))) & found - {"_"}, set(), name)
+            self.assertEqual(taken & {one for one in own if one not in {node.name for node in held}}, set(), name)
+
+    def test_no_imports_in_a_circle(self):
+        imports = {name: {node.module.split(".")[1] + ".py" for node in tree.body
+                          if isinstance(node, ast.ImportFrom) and node.module.startswith("accountmaps.")}
+                   for name, tree in TREES}
+        while imports:
+            free = [name for name in imports if not imports[name] & set(imports)]
+            self.assertTrue(free, imports)
+            imports = {name: imports[name] for name in imports if name not in free}
+
+    def test_exponents_are_written(self):
+        for name, node in nodes(ast.BinOp):
+            if isinstance(node.op, ast.Pow):
+                self.assertIsInstance(node.right, ast.Constant, (name, node.lineno))
+
+    def test_lists_in_loops_stay(self):
+        """No loop over a name changes what has this name."""
+        for name, node in nodes(ast.For):
+            gone_over = {one.id for one in ast.walk(node.iter) if isinstance(one, ast.Name)}
+            if isinstance(node.iter, ast.Call) and node.iter.func.id in ("list", "range", "sorted"):
+                gone_over = set()
+            for one in [inner for row in node.body for inner in ast.walk(row)]:
+                if isinstance(one, ast.Call) and isinstance(one.func, ast.Attribute):
+                    if one.func.attr in CHANGING and isinstance(one.func.value, ast.Name):
+                        self.assertNotIn(one.func.value.id, gone_over, (name, one.lineno))
+                if isinstance(one, ast.Subscript) and isinstance(one.ctx, ast.Store):
+                    if isinstance(one.value, ast.Name):
+                        self.assertNotIn(one.value.id, gone_over, (name, one.lineno))
 
     def test_double_underscores(self):
         for name, node in nodes(ast.FunctionDef):
