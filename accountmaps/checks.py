@@ -79,7 +79,24 @@ def check_script(accounts, ahead, script):
             check_script(accounts, ahead, inner)
 
 
-def check_state(accounts, state):
-    """Refuse a state that is not as long as the accounts."""
-    if len(state) != len(accounts):
+def check_state(many, state):
+    """Refuse a state, or weights, of another number of integers than so many."""
+    if len(state) != many:
         raise InvalidState(list(state))
+
+
+def check_modulus(modulus):
+    """Refuse a modulus that is less than 1."""
+    check_moduli([modulus])
+
+
+def check_from_nought(number):
+    """Refuse a number that is less than 0."""
+    if number < 0:
+        raise InvalidNumber(number)
+
+
+def check_index(index, many):
+    """Refuse what is no index of so many things."""
+    if not 0 <= index < many:
+        raise InvalidNumber(index)

@@ -1,9 +1,7 @@
 """What formulas and scripts do: in one state, and for all states as a form."""
 
 from accountmaps.checks import check_formula, check_script, check_state
-from accountmaps.copies import copied
-from accountmaps.errors import InvalidForm
-from accountmaps.forms import is_form
+from accountmaps.forms import check_map
 from accountmaps.making import script_for_pieces
 from accountmaps.reckoning import Amounts, behind, laid_out, laid_out_scripts, worked_out
 from accountmaps.sheets import Sheets, form_of_sheets, hangs
@@ -13,14 +11,14 @@ def value(house, formula, state):
     """What a formula is in a state."""
     accounts = house.accounts
     check_formula(accounts, formula)
-    check_state(accounts, state)
+    check_state(len(accounts), state)
     return worked_out(Amounts(), formula, dict(zip(accounts, state)))
 
 
 def run(house, script, state):
     """The state behind a script."""
     check_script_of(house, script)
-    check_state(house.accounts, state)
+    check_state(len(house.accounts), state)
     script = laid_out(laid_out_scripts(house.scripts), script)
     amounts = behind(Amounts(), script, dict(zip(house.accounts, state)))
     return list(amounts.values())
@@ -29,7 +27,7 @@ def run(house, script, state):
 def states(house, script, state):
     """The states behind each deed of a script."""
     check_script_of(house, script)
-    check_state(house.accounts, state)
+    check_state(len(house.accounts), state)
     known = laid_out_scripts(house.scripts)
     amounts = dict(zip(house.accounts, state))
     found = []
@@ -58,8 +56,7 @@ def form_of(house, formulas):
 def script_for(house, form):
     """A script whose map has a form."""
     accounts = house.accounts
-    if not is_form(form, len(accounts), len(accounts)):
-        raise InvalidForm(copied(form))
+    check_map(form, len(accounts))
     moduli, pieces = form
     return script_for_pieces(accounts, moduli, pieces, 0)
 

@@ -11,6 +11,14 @@ def product_of(numbers):
     return found
 
 
+def common_multiple(numbers):
+    """The least common multiple of some integers of at least 1."""
+    found = 1
+    for number in numbers:
+        found = lcm(found, number)
+    return found
+
+
 def common_moduli(lots):
     """For each account the least common multiple of its moduli in one or more lots of moduli."""
     found = lots[0]
@@ -25,6 +33,19 @@ def all_rests(moduli):
     for modulus in moduli:
         found = [rests + (rest,) for rests in found for rest in range(modulus)]
     return found
+
+
+def place_of(moduli, state):
+    """The place, among all tuples of rests by some moduli, of the rests of a state."""
+    place = 0
+    for modulus, amount in zip(moduli, state):
+        place = place * modulus + amount % modulus
+    return place
+
+
+def rests_of(state, modulus):
+    """The rests of all amounts of a state by one modulus, as a tuple."""
+    return tuple([amount % modulus for amount in state])
 
 
 def spread(moduli, pieces, finer):

@@ -1,12 +1,13 @@
 """Sheets: what one amount is, by the amounts with which all began.
 
 A sheet is a tuple (moduli, pieces), as a form with one result is, always in its least way. A piece is
-one tuple: the integers for the accounts, and behind them the amount that is added.
+one row, as in tables: the integers for the accounts, and behind them the amount that is added.
 """
 
 from math import gcd
 
 from accountmaps.rests import all_rests, common_moduli, least_way, spread
+from accountmaps.tables import form_of_table, row_at
 
 
 class Sheets:
@@ -44,7 +45,7 @@ class Sheets:
         moduli, pieces = one
         finer = [finer_modulus(moduli, pieces, index, modulus) for index in range(self.many)]
         finer_pieces = spread(moduli, pieces, finer)
-        amounts = [piece_at(piece, state) % modulus for piece, state in zip(finer_pieces, all_rests(finer))]
+        amounts = [row_at(piece, state) % modulus for piece, state in zip(finer_pieces, all_rests(finer))]
         noughts = (0,) * self.many
         return least_way(finer, [noughts + (amount,) for amount in amounts])
 
@@ -80,11 +81,6 @@ def finer_modulus(moduli, pieces, index, modulus):
     return moduli[index] * (modulus // shared)
 
 
-def piece_at(piece, state):
-    """What a piece is in a state."""
-    return sum([part * amount for part, amount in zip(piece, state)]) + piece[-1]
-
-
 def hangs(sheet, index):
     """Whether two states that are unlike in one account alone, told by its index, give unlike amounts."""
     moduli, pieces = sheet
@@ -95,9 +91,4 @@ def form_of_sheets(sheets):
     """The form, in its least way, with a result for each of one or more sheets."""
     moduli = common_moduli([sheet[0] for sheet in sheets])
     lots = [spread(sheet[0], sheet[1], moduli) for sheet in sheets]
-    return list(moduli), [form_piece(rows) for rows in zip(*lots)]
-
-
-def form_piece(rows):
-    """The piece of a form that is made of a piece of each of some sheets."""
-    return [list(row[:-1]) for row in rows], [row[-1] for row in rows]
+    return form_of_table((moduli, list(zip(*lots))))

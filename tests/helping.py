@@ -206,3 +206,150 @@ def some_form(chance, moduli, most):
         matrix = [[chance.randint(-most, most) for _ in range(many)] for _ in range(many)]
         pieces.append((matrix, [chance.randint(-most, most) for _ in range(many)]))
     return list(moduli), pieces
+
+
+def some_results(chance, moduli, results, most):
+    """A form with these moduli and so many results."""
+    pieces = []
+    for _ in all_rests(moduli):
+        matrix = [[chance.randint(-most, most) for _ in moduli] for _ in range(results)]
+        pieces.append((matrix, [chance.randint(-most, most) for _ in range(results)]))
+    return list(moduli), pieces
+
+
+def some_calm_map(chance, moduli):
+    """A form of a map of which much comes round: each account becomes another one, or its negative, or a number."""
+    many = len(moduli)
+    pieces = []
+    for _ in all_rests(moduli):
+        rows = []
+        for _ in range(many):
+            row = [0] * many
+            row[chance.randrange(many)] = chance.choice([0, 1, 1, -1])
+            rows.append(row)
+        pieces.append((rows, [chance.choice([0, 0, 1, -1, 2]) for _ in range(many)]))
+    return list(moduli), pieces
+
+
+def told_wider(form, factors):
+    """The same form, told with moduli that are so often as great."""
+    moduli, pieces = form
+    table = dict(zip(all_rests(moduli), pieces))
+    wider = [modulus * factor for modulus, factor in zip(moduli, factors)]
+    found = []
+    for rests in all_rests(wider):
+        matrix, amounts = table[tuple(rest % modulus for rest, modulus in zip(rests, moduli))]
+        found.append(([list(row) for row in matrix], list(amounts)))
+    return wider, found
+
+
+def plain_least(form):
+    """The least way of a form, found by trying all divisors of each modulus."""
+    moduli, pieces = form
+    table = dict(zip(all_rests(moduli), pieces))
+    least = []
+    for place, modulus in enumerate(moduli):
+        for divisor in range(1, modulus + 1):
+            if modulus % divisor == 0:
+                moved = {rests: rests[:place] + ((rests[place] + divisor) % modulus,) + rests[place + 1:]
+                         for rests in table}
+                if all(table[rests] == table[moved[rests]] for rests in table):
+                    least.append(divisor)
+                    break
+    return least, [table[rests] for rests in all_rests(least)]
+
+
+def states_in_order(many, far):
+    """All states, none of whose amounts is further from nought than so far, in the order of maps.py."""
+    states = [[]]
+    for _ in range(many):
+        states = [state + [amount] for state in states for amount in range(-far, far + 1)]
+    return sorted(states, key=lambda state: (max(abs(amount) for amount in state), state))
+
+
+def small_moduli(chance, many, most):
+    """Moduli that multiply to at most so much."""
+    moduli, product = [1] * many, 1
+    for place in chance.sample(range(many), many):
+        moduli[place] = chance.randint(1, max(1, min(7, most // product)))
+        product *= moduli[place]
+    return moduli
+
+
+def spoilt_forms(form, results=None):
+    """Things that are no forms, made of a form that is one: each wrong in its numbers of things or its moduli."""
+    moduli, pieces = form
+    matrix, amounts = pieces[0]
+    accounts = len(moduli)
+    yield ([], [])
+    yield ([], pieces)
+    yield (moduli,)
+    yield (moduli, pieces, [])
+    yield ()
+    yield (moduli + [1], pieces)
+    yield (moduli, [])
+    yield (moduli, pieces + [pieces[0]])
+    yield (moduli, pieces[:-1] + [(matrix, amounts + [1])])
+    yield (moduli, pieces[:-1] + [(matrix + [[0] * accounts], amounts)])
+    yield (moduli, pieces[:-1] + [(matrix + [[0] * accounts], amounts + [0])] if len(pieces) > 1 else [])
+    yield (moduli, [(matrix[:-1], amounts)] + pieces[1:])
+    yield (moduli, [([row + [0] for row in matrix], amounts)] + pieces[1:])
+    yield (moduli, [(matrix[:-1] + [matrix[-1][1:]], amounts)] + pieces[1:])
+    yield (moduli, [(matrix,)] + pieces[1:])
+    yield (moduli, [()] + pieces[1:])
+    yield (moduli, [(matrix, amounts, [])] + pieces[1:])
+    yield (moduli, [([], []) for _ in pieces])
+    yield (moduli[:-1] + [0], pieces)
+    yield ([-modulus for modulus in moduli], pieces)
+    yield (moduli[:-1] + [moduli[-1] * 2], pieces)
+
+
+def weighted_sum(weights, state):
+    return sum(weight * amount for weight, amount in zip(weights, state))
+
+
+def telling_states(form):
+    """States that tell all of a form: of each piece one with its rests, and those with one account a round on."""
+    moduli, _ = form
+    found = []
+    for rests in all_rests(moduli):
+        found.append(list(rests))
+        for place, modulus in enumerate(moduli):
+            found.append([rest + modulus * (other == place) for other, rest in enumerate(rests)])
+    return found
+
+
+def is_in_steps(rows):
+    """Whether rows are a least basis in steps."""
+    places = [[place for place, part in enumerate(row) if part != 0][:1] for row in rows]
+    if [] in places or places != sorted(places) or len({place[0] for place in places}) < len(places):
+        return False
+    for at, (place,) in enumerate(places):
+        if rows[at][place] <= 0 or any(not 0 <= rows[before][place] < rows[at][place] for before in range(at)):
+            return False
+    return True
+
+
+def is_sum_of(rows, row):
+    """Whether a row is a sum of multiples of a basis in steps."""
+    row = list(row)
+    for leader in rows:
+        place = [place for place, part in enumerate(leader) if part != 0][0]
+        often = row[place] // leader[place]
+        row = [part - often * other for part, other in zip(row, leader)]
+    return not any(row)
+
+
+def some_keeping_map(chance, moduli, weights, most):
+    """A form of a map that never changes the sums by some weights, at most two lists of them."""
+    many = len(moduli)
+    pieces = []
+    lots = [row for row in states_in_order(many, most) if not any(weighted_sum(one, row) for one in weights)]
+    for _ in all_rests(moduli):
+        matrix = [[1 if row == column else 0 for column in range(many)] for row in range(many)]
+        for _ in range(chance.choice([0, 0, 1])):
+            moved, by = chance.choice(lots), [chance.randint(-2, 2) for _ in range(many)]
+            matrix = [[part + moved[row] * by[column] for column, part in enumerate(line)]
+                      for row, line in enumerate(matrix)]
+        pieces.append((matrix, list(chance.choice(lots))))
+    return list(moduli), pieces

@@ -16,6 +16,43 @@ DEEDS = '''
 [([1, 1, 1], [([[1, 0, 0], [0, 1, 0], [0, 0, 1]], [5, -1, 0])]), ([1, 1, 2], [([[0, 0, 0]], [0]), ([[0, 0, 0]], [1])]), ['day'], ['day'], [], True]
 '''
 
+MAPS = '''
+>>> from accountmaps.maps import alike, at, first_unlike, hangs_on, is_plain, joined, least, matrices, same_map
+>>> half, day = ([2], [([[1]], [0]), ([[1]], [1])]), ([7], [([[0]], [1]), ([[0]], [2]), ([[0]], [3]), ([[0]], [4]), ([[0]], [5]), ([[0]], [6]), ([[0]], [0])])
+>>> [at(half, [5]), joined(half, half), least(([4], [([[1]], [0]), ([[1]], [1]), ([[1]], [0]), ([[1]], [1])])), alike(half, half), first_unlike(half, ([1], [([[1]], [0])])), first_unlike(half, ([3], [([[1]], [0]), ([[1]], [1]), ([[1]], [0])]))]
+[[6], ([2], [([[1]], [0]), ([[1]], [1])]), ([2], [([[1]], [0]), ([[1]], [1])]), True, [-1], [-1]]
+>>> [same_map(2), is_plain(day), hangs_on(day, 0, 0), joined(day, day)[1][6], matrices(half)]
+[([1, 1], [([[1, 0], [0, 1]], [0, 0])]), False, True, ([[0]], [1]), [[[1]]]]
+'''
+
+KEPT = '''
+>>> from accountmaps.kept import changing, is_kept, kept, kept_rests
+>>> sell, night = ([1, 1], [([[1, 0], [0, 1]], [5, -1])]), ([1, 3], [([[1, 0], [0, 0]], [0, 1]), ([[1, 0], [0, 0]], [0, 2]), ([[1, 0], [0, 0]], [0, 0])])
+>>> [kept([sell]), kept([sell, night]), kept([([1, 1], [([[0, 1], [1, 0]], [0, 0])])]), kept_rests([sell], 3), is_kept([sell], [2, 10]), changing([sell, night], [1, 5]), changing([sell], [1, 0])]
+[[[1, 5]], [], [[1, 1]], [[0, 0], [1, 2], [2, 1]], True, (1, [0, 0]), (0, [0, 0])]
+'''
+
+REACHING = '''
+>>> from accountmaps.reaching import against, judge_against, rests_reached, road, shift, steps_of, way
+>>> sell, swap = ([1, 1], [([[1, 0], [0, 1]], [5, -1])]), ([1, 1], [([[0, 1], [1, 0]], [0, 0])])
+>>> [shift(sell), shift(swap), way([[5, -1], [2, 0]], [1, 1]), way([[2, 0]], [1, 0]), judge_against([[2, 0]], [1, 0], against([[2, 0]], [1, 0])), judge_against([[2, 0]], [0, 1], ([0, 1], 0)), steps_of([[5, -1], [2, 0]])]
+[[5, -1], None, [-1, 3], None, True, True, [[1, 1], [0, 2]]]
+>>> [rests_reached([swap], [0, 1], 2), road([sell, swap], [0, 0], [1, 0], 2), road([swap], [0, 1], [1, 1], 2)]
+[[[0, 1], [1, 0]], None, None]
+'''
+
+ROUNDS = '''
+>>> from accountmaps.rounds import after, both, comes_round, comes_round_at, drift, is_calendar, many_before, neither, next_from, power, times_when
+>>> sell, day = ([1, 1], [([[1, 0], [0, 1]], [5, -1])]), ([3], [([[0]], [1]), ([[0]], [2]), ([[0]], [0])])
+>>> [power(sell, 3), after(sell, [0, 10], 10 ** 30, 7), comes_round(sell), comes_round(day), comes_round_at(day, [1]), comes_round_at(day, [9]), drift(sell, [0, 0])]
+[([1, 1], [([[1, 0], [0, 1]], [15, -3])]), [5, 2], None, (1, 3), (0, 3), (1, 3), (1, [5, -1])]
+>>> [times_when(day, [9], [1], 2, 1), times_when(sell, [0, 0], [1, 0], 3, 0)]
+[([0], 1, 3, [0]), ([], 0, 3, [0])]
+>>> odd_days, even = ([0], 1, 3, [0]), ([], 0, 2, [0])
+>>> [both(odd_days, even), neither(odd_days, even), many_before(odd_days, 10 ** 30), next_from(odd_days, 2), is_calendar(([0], 1, 6, [0, 3]))]
+[([0], 1, 6, [3]), ([], 0, 6, [3, 5]), 333333333333333333333333333334, 4, False]
+'''
+
 
 class TestExamples(unittest.TestCase):
     def check(self, text, name):
@@ -26,6 +63,18 @@ class TestExamples(unittest.TestCase):
 
     def test_deeds(self):
         self.check(DEEDS, "deeds")
+
+    def test_maps(self):
+        self.check(MAPS, "maps")
+
+    def test_kept(self):
+        self.check(KEPT, "kept")
+
+    def test_reaching(self):
+        self.check(REACHING, "reaching")
+
+    def test_rounds(self):
+        self.check(ROUNDS, "rounds")
 
     def test_readme(self):
         readme = pathlib.Path(__file__).resolve().parent.parent / "README.md"
