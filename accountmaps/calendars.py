@@ -6,6 +6,7 @@ and first + f + length * j for each f of the ascending list found and each j fro
 
 from math import gcd
 
+from accountmaps.checks import is_ascending_below
 from accountmaps.copies import copied
 from accountmaps.errors import InvalidRests
 from accountmaps.rests import common_multiple, least_way, prime_factors
@@ -40,11 +41,6 @@ def common_span(one, other):
     """The tuple (first, most): from the first on, two calendars come again behind what is left up to most."""
     first = max(one[1], other[1])
     return first, first + common_multiple([one[2], other[2]])
-
-
-def is_ascending_below(numbers, most):
-    """Whether numbers are ascending, unlike, from 0 on and less than so many."""
-    return all([low < high for low, high in zip([-1] + numbers, numbers + [most])])
 
 
 def is_least_calendar(told):

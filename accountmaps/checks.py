@@ -40,12 +40,15 @@ def check_moduli(moduli):
             raise InvalidModulus(modulus)
 
 
+def is_ascending_below(numbers, most):
+    """Whether some numbers are ascending, unlike, from 0 on and less than so many."""
+    return all([low < high for low, high in zip([-1] + numbers, numbers + [most])])
+
+
 def check_rests(rests, modulus):
     """Refuse rests that are not ascending, or not those of a modulus."""
-    for place, rest in enumerate(rests):
-        least = rests[place - 1] + 1 if place else 0
-        if not least <= rest < modulus:
-            raise InvalidRests(list(rests))
+    if not is_ascending_below(rests, modulus):
+        raise InvalidRests(list(rests))
 
 
 def check_formula(accounts, formula):

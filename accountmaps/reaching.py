@@ -1,10 +1,11 @@
 """What can be reached: goals by shifts, and rests by maps."""
 
 from accountmaps.checks import check_modulus, check_state
+from accountmaps.courses import first_courses
 from accountmaps.errors import InvalidModulus, InvalidNumber
 from accountmaps.forms import accounts_in_form, check_map, check_maps
 from accountmaps.lattices import bar_of, in_steps, often_each, weighted
-from accountmaps.rests import rests_of
+from accountmaps.rests import product_of, rests_of
 from accountmaps.tables import results_at, same_rows, table_of
 
 
@@ -84,18 +85,9 @@ def check_reaching(forms, states, modulus):
 
 
 def roads_from(forms, state, modulus):
-    """The first road to each tuple of rests that can be reached, by length and then as lists."""
+    """The first road to each tuple of rests that can be reached."""
     tables = [table_of(form) for form in forms]
-    found = {rests_of(state, modulus): []}
-    lot = list(found)
-    # Each lot is in the order of its roads, so what is found first is found by the first road.
-    while lot:
-        more = []
-        for rests in lot:
-            for index, table in enumerate(tables):
-                behind = rests_of(results_at(table, rests), modulus)
-                if behind not in found:
-                    found[behind] = found[rests] + [index]
-                    more.append(behind)
-        lot = more
-    return found
+    every = list(range(len(tables)))
+    most = product_of([modulus] * len(state))
+    return first_courses(lambda index, rests: rests_of(results_at(tables[index], rests), modulus),
+                         rests_of(state, modulus), every, most)

@@ -53,6 +53,28 @@ ROUNDS = '''
 [([0], 1, 6, [3]), ([], 0, 6, [3, 5]), 333333333333333333333333333334, 4, False]
 '''
 
+PLANS = '''
+>>> from accountmaps.houses import House
+>>> from accountmaps.plans import cheapest, fewest, fewest_map, needless, reached, unlike_maps
+>>> house = House(["cash", "day"], [("pay", [("put", "cash", ("number", 5))]), ("ten", [("put", "cash", ("number", 10))]), ("night", [("set", "day", ("number", 0))])])
+>>> [fewest(house, ["pay", "ten"], [0, 0], [20, 0], 4), cheapest(house, ["pay", "ten"], [1, 3], [0, 0], [20, 0], 4), reached(house, ["pay", "night"], [0, 1], 2), unlike_maps(house, ["night"], 3), needless(house, ["pay", "ten", "night"], 2)]
+[['ten', 'ten'], (4, ['pay', 'pay', 'pay', 'pay']), 5, 2, ['ten']]
+>>> fewest_map(house, ["pay", "night"], ([1, 1], [([[1, 0], [0, 0]], [5, 0])]), 2)
+['night', 'pay']
+'''
+
+READINGS = '''
+>>> from accountmaps.readings import read_formula, read_house, read_script, read_state
+>>> from accountmaps.texts import show_formula, show_house, show_script, show_state
+>>> script = [("put", "cash", ("times", 3, ("account", "day"))), ("times", 2, [("do", "pay")])]
+>>> show_script([("when", ("account", "day"), 7, [0, 6], [], [("do", "pay")])])
+'when day rest 7 in 0 6 [-] else [do pay]'
+>>> [show_script(script), read_script("put cash (3 * day); times 2 [do pay]") == script, show_formula(("rest", ("less", ("account", "a"), ("number", -5)), 7)), read_formula("((a - -5) rest 7)"), show_state([0, -5]), read_state("0 -5")]
+['put cash (3 * day); times 2 [do pay]', True, '((a - -5) rest 7)', ('rest', ('less', ('account', 'a'), ('number', -5)), 7), '0 -5', [0, -5]]
+>>> show_house(read_house("cash day | pay: put cash 5 | none: -"))
+'cash day | pay: put cash 5 | none: -'
+'''
+
 
 class TestExamples(unittest.TestCase):
     def check(self, text, name):
@@ -75,6 +97,12 @@ class TestExamples(unittest.TestCase):
 
     def test_rounds(self):
         self.check(ROUNDS, "rounds")
+
+    def test_plans(self):
+        self.check(PLANS, "plans")
+
+    def test_readings(self):
+        self.check(READINGS, "readings")
 
     def test_readme(self):
         readme = pathlib.Path(__file__).resolve().parent.parent / "README.md"

@@ -53,8 +53,9 @@ class TestLanguage(unittest.TestCase):
                 self.assertLessEqual({alias.name for alias in node.names}, {"gcd", "lcm"})
             else:
                 path = PACKAGE / (node.module.removeprefix("accountmaps.") + ".py")
-                own = {one.name for one in ast.parse(path.read_text()).body
-                       if isinstance(one, (ast.FunctionDef, ast.ClassDef))}
+                rows = ast.parse(path.read_text()).body
+                own = {one.name for one in rows if isinstance(one, (ast.FunctionDef, ast.ClassDef))}
+                own |= {one.targets[0].id for one in rows if isinstance(one, ast.Assign)}
                 self.assertLessEqual({alias.name for alias in node.names}, own, name)
 
     def test_builtins(self):
