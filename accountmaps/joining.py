@@ -3,7 +3,7 @@
 from math import gcd, lcm
 
 from accountmaps.rests import all_rests, common_multiple, least_way, prime_factors, spread
-from accountmaps.tables import results_at, rows_at, rows_behind, rows_for, same_table
+from accountmaps.tables import rows_at, rows_behind, rows_for, same_table
 
 
 def table_behind(one, other):

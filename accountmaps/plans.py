@@ -23,7 +23,7 @@ def fewest_map(house, names, form, most):
     check_scripts(house, names)
     check_map(form, len(house.accounts))
     check_from_nought(most)
-    return map_plans(house, names, most).get(fixed(table_of(form)))
+    return map_plans(house, tables_of(house, names), most).get(fixed(table_of(form)))
 
 
 def cheapest(house, names, costs, state, goal, most):
@@ -50,17 +50,18 @@ def unlike_maps(house, names, most):
     """How many unlike maps plans with at most so many names have."""
     check_scripts(house, names)
     check_from_nought(most)
-    return len(map_plans(house, names, most))
+    return len(map_plans(house, tables_of(house, names), most))
 
 
 def needless(house, names, most):
     """The names whose map is that of a plan with at most so many of the other names, ascending."""
     check_scripts(house, names)
     check_from_nought(most)
+    tables = tables_of(house, names)
     found = []
     for name in sorted(names):
-        others = [other for other in names if other != name]
-        if fixed(table_for(house, name)) in map_plans(house, others, most):
+        others = {other: tables[other] for other in names if other != name}
+        if fixed(tables[name]) in map_plans(house, others, most):
             found.append(name)
     return found
 
@@ -82,9 +83,9 @@ def state_step(house):
     return lambda name, state: tuple(behind(Amounts(), known[name], dict(zip(accounts, state))).values())
 
 
-def table_for(house, name):
-    """The table of the map of a script."""
-    return table_of(map_of(house, [("do", name)]))
+def tables_of(house, names):
+    """The tables of the maps of some scripts, by their names."""
+    return {name: table_of(map_of(house, [("do", name)])) for name in names}
 
 
 def fixed(table):
@@ -93,11 +94,10 @@ def fixed(table):
     return moduli, tuple(pieces)
 
 
-def map_plans(house, names, most):
-    """The first plan, with at most so many names, of each map that such plans have, by their tables."""
-    tables = {name: table_for(house, name) for name in names}
+def map_plans(house, tables, most):
+    """The first plan, with at most so many of the names of some tables, of each map that such plans have."""
     start = fixed(same_table(len(house.accounts)))
-    return first_courses(lambda name, table: fixed(table_behind(table, tables[name])), start, sorted(names), most)
+    return first_courses(lambda name, table: fixed(table_behind(table, tables[name])), start, sorted(tables), most)
 
 
 def cheapest_plan(step, costs, start, goal, most):

@@ -5,7 +5,7 @@ from accountmaps.errors import Unreadable
 
 DIGITS = "0123456789"
 # Nothing that has a text is more than 20 deep, a formula within a script 20 more.
-DEEPEST = 80
+DEEPEST = 60
 
 
 def deepest(text):

@@ -2,7 +2,7 @@
 
 from math import lcm
 
-from accountmaps.calendars import calendar_of, check_calendar, common_span, holds, is_least_calendar, truths_of
+from accountmaps.calendars import calendar_of, check_calendar, common_span, is_least_calendar, truths_of
 from accountmaps.checks import check_from_nought, check_index, check_modulus, check_state
 from accountmaps.forms import accounts_in_form, check_map
 from accountmaps.joining import table_power

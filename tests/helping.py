@@ -276,12 +276,13 @@ def small_moduli(chance, many, most):
     return moduli
 
 
-def spoilt_forms(form, results=None):
+def spoilt_forms(form):
     """Things that are no forms, made of a form that is one: each wrong in its numbers of things or its moduli."""
     moduli, pieces = form
     matrix, amounts = pieces[0]
     accounts = len(moduli)
     yield ([], [])
+    yield ([], [([], [])])
     yield ([], pieces)
     yield (moduli,)
     yield (moduli, pieces, [])

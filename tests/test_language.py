@@ -58,6 +58,11 @@ class TestLanguage(unittest.TestCase):
                 own |= {one.targets[0].id for one in rows if isinstance(one, ast.Assign)}
                 self.assertLessEqual({alias.name for alias in node.names}, own, name)
 
+    def test_imports_are_used(self):
+        for name, tree in TREES:
+            imported = {one.name for node in tree.body if isinstance(node, ast.ImportFrom) for one in node.names}
+            self.assertLessEqual(imported, {node.id for node in ast.walk(tree) if isinstance(node, ast.Name)}, name)
+
     def test_builtins(self):
         for name, node in nodes(ast.Name):
             # Examples that were tried leave a name `_` among the builtins.

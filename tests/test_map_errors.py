@@ -63,8 +63,10 @@ class TestForms(unittest.TestCase):
             self.assertEqual((kind, held), (InvalidForm, form))
             self.assertTrue(are_apart(held))
             self.assertFalse([one for one in lists_within(held) if id(one) in passed])
-        _, held = error_of(joined, TWO, OF_ONE)
-        self.assertTrue(are_apart(held, OF_ONE))
+        for function in (joined, alike, first_unlike):
+            _, held = error_of(function, TWO, OF_ONE)
+            self.assertEqual(held, OF_ONE)
+            self.assertTrue(are_apart(held, OF_ONE))
 
 
 class TestStatesAndNumbers(unittest.TestCase):

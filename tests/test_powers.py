@@ -3,7 +3,7 @@
 import random
 import unittest
 
-from accountmaps.maps import joined, least, same_map
+from accountmaps.maps import joined, same_map
 from accountmaps.rounds import after, power
 from tests.helping import are_apart, form_at, has_shape, is_least, lists_within, some_calm_map, some_form, spoil
 from tests.helping import told_wider

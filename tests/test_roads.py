@@ -5,7 +5,7 @@ import unittest
 
 from accountmaps.maps import same_map
 from accountmaps.reaching import rests_reached, road
-from tests.helping import all_rests, are_apart, form_at, small_moduli, some_calm_map, some_form, spoil, told_wider
+from tests.helping import all_rests, are_apart, form_at, some_calm_map, some_form, spoil, told_wider
 from tests.test_shifts import shift_map
 
 SELL, SWAP = shift_map([5, -1]), ([1, 1], [([[0, 1], [1, 0]], [0, 0])])
