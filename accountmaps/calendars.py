@@ -46,8 +46,6 @@ def common_span(one, other):
 def is_least_calendar(told):
     """Whether what is told so is a calendar, with the least first and then the least length."""
     early, first, length, found = told
-    if first < 0 or length < 1:
-        return False
     if not is_ascending_below(early, first) or not is_ascending_below(found, length):
         return False
     if first > 0 and (first - 1 in early) == (length - 1 in found):

@@ -6,11 +6,10 @@ from accountmaps.rests import product_of
 
 
 def in_steps(rows):
-    """The least basis, in steps, of all sums of some rows of one length."""
+    """The least basis, in steps, of all sums of one or more rows of one length."""
     found = []
     rest = [list(row) for row in rows]
-    width = len(rows[0]) if rows else 0
-    for place in range(width):
+    for place in range(len(rows[0])):
         rest = led_to_one(rest, place)
         if rest and rest[0][place] != 0:
             leader = rest[0] if rest[0][place] > 0 else [-part for part in rest[0]]

@@ -85,6 +85,10 @@ class TestStates(unittest.TestCase):
             form = ([1] * 4, [(matrix, [0] * 4)])
             self.assertEqual([comes_round(form), comes_round_at(form, [1, 0, 1, 0])], [(0, order)] * 2)
             self.assertEqual(comes_round_at(form, [0, 0, 0, 0]), (0, 1))
+        for many, matrix, order in ((1, [[-1]], 2), (2, [[0, -1], [1, 1]], 6), (3, [[0, -1, 0], [1, 1, 0], [0, 0, 1]], 6),
+                                    (4, TWELVE, 12)):
+            form = ([1] * many, [(matrix, [0] * many)])
+            self.assertEqual([comes_round(form), drift(form, [1, 0, 1, 0][:many])], [(0, order), (order, [0] * many)])
         chain = ([1] * 4, [([[0, 1, 0, 0], [0, 0, 1, 0], [0, 0, 0, 1], [0, 0, 0, 0]], [0, 0, 0, 0])])
         self.assertEqual([comes_round(chain), comes_round_at(chain, [0, 0, 0, 1])], [(4, 1)] * 2)
 
@@ -101,6 +105,15 @@ class TestStates(unittest.TestCase):
         turned = ([1, 5], [([[-1, 0], [0, 1]], [0, 1])] * 4 + [([[-1, 0], [0, 1]], [0, -4])])
         self.assertEqual([comes_round(turned), comes_round_at(turned, [1, 0]), comes_round_at(turned, [0, 0])],
                          [(0, 10), (0, 10), (0, 5)])
+
+    def test_orders_at_some_rests_alone(self):
+        six, same = [[0, -1, 0], [1, 1, 0], [0, 0, 1]], [[1, 0, 0], [0, 1, 0], [0, 0, 1]]
+        form = ([1, 1, 3], [(six, [0, 0, 1]), (same, [0, 0, 1]), (same, [0, 0, -2])])
+        self.assertEqual([comes_round(form), comes_round_at(form, [1, 0, 0]), comes_round_at(form, [0, 0, 4])],
+                         [(0, 18), (0, 18), (0, 3)])
+        self.assertEqual([drift(form, [1, 0, 0]), drift(form, [0, 0, 0])], [(18, [0, 0, 0]), (3, [0, 0, 0])])
+        moved = ([1, 1, 3], [(six, [1, 0, 1]), (same, [0, 0, 1]), (same, [0, 0, -2])])
+        self.assertEqual([comes_round(moved), drift(moved, [5, 5, 2])], [(0, 18), (18, [0, 0, 0])])
 
     def test_great_on_the_way(self):
         great = ([1, 7], [([[100, 0], [0, 1]], [1, 1])] * 6 + [([[0, 0], [0, 1]], [0, -6])])
