@@ -1,7 +1,7 @@
 """What a form must be."""
 
 from accountmaps.copies import copied
-from accountmaps.errors import InvalidForm
+from accountmaps.errors import InvalidForm, InvalidNumber
 from accountmaps.rests import product_of
 
 
@@ -42,11 +42,30 @@ def check_form(form):
 
 def check_map(form, accounts):
     """Refuse what is no form of a map of so many accounts."""
-    if not is_form(form, accounts, accounts):
-        raise InvalidForm(copied(form))
+    check_form_with(form, accounts, accounts)
 
 
 def check_maps(forms):
     """Refuse the first that is no form of a map, or has not as many accounts as the first one."""
     for form in forms:
         check_map(form, accounts_in_form(forms[0]))
+
+
+def check_some_maps(forms):
+    """Refuse a list without a form, or with one that is no form of a map of as many accounts as the first one."""
+    if not forms:
+        raise InvalidNumber(0)
+    check_maps(forms)
+
+
+def check_form_of(form, accounts):
+    """Refuse what is no form of so many accounts."""
+    check_form(form)
+    if accounts_in_form(form) != accounts:
+        raise InvalidForm(copied(form))
+
+
+def check_form_with(form, accounts, results):
+    """Refuse what is no form of so many accounts and with so many results."""
+    if not is_form(form, accounts, results):
+        raise InvalidForm(copied(form))

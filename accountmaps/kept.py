@@ -1,9 +1,8 @@
 """Weighted sums that no map ever changes."""
 
 from accountmaps.checks import check_modulus, check_state
-from accountmaps.errors import InvalidNumber
 from accountmaps.firsts import first_with_results
-from accountmaps.forms import accounts_in_form, check_maps
+from accountmaps.forms import accounts_in_form, check_some_maps
 from accountmaps.joining import turns_of
 from accountmaps.lattices import in_steps, unit, weighted, without_sum
 from accountmaps.rests import all_rests, least_way, rests_of
@@ -44,13 +43,6 @@ def changing(forms, weights):
         if state is not None:
             return index, state
     return None
-
-
-def check_some_maps(forms):
-    """Refuse a list without a form, or with one that is no form of a map of as many accounts as the first one."""
-    if not forms:
-        raise InvalidNumber(0)
-    check_maps(forms)
 
 
 def changes_of(form):

@@ -7,7 +7,7 @@ from accountmaps.errors import InvalidNumber
 from accountmaps.forms import check_map
 from accountmaps.joining import table_behind
 from accountmaps.reckoning import Amounts, behind, laid_out_scripts
-from accountmaps.tables import same_table, table_of
+from accountmaps.tables import fixed, same_table, table_of
 
 
 def fewest(house, names, state, goal, most):
@@ -86,12 +86,6 @@ def state_step(house):
 def tables_of(house, names):
     """The tables of the maps of some scripts, by their names."""
     return {name: table_of(map_of(house, [("do", name)])) for name in names}
-
-
-def fixed(table):
-    """A table by which plans can be kept in a dict."""
-    moduli, pieces = table
-    return moduli, tuple(pieces)
 
 
 def map_plans(house, tables, most):

@@ -29,6 +29,12 @@ def piece_of_rows(rows):
     return [list(row[:-1]) for row in rows], [row[-1] for row in rows]
 
 
+def fixed(table):
+    """A table that can be a key of a dict."""
+    moduli, pieces = table
+    return moduli, tuple(pieces)
+
+
 def same_rows(many):
     """The rows that leave so many accounts as they are."""
     return tuple([(0,) * place + (1,) + (0,) * (many - place) for place in range(many)])

@@ -75,6 +75,45 @@ READINGS = '''
 'cash day | pay: put cash 5 | none: -'
 '''
 
+REPORTS = '''
+>>> from accountmaps.reports import answers, fitting, judge_pair, judge_rule, least_lots, pair, rule, told
+>>> both, apart, first = ([1, 1], [([[1, 1]], [0])]), ([1, 1], [([[1, -1]], [0])]), ([1, 1], [([[1, 0]], [0])])
+>>> [told([both], first), told([both, apart], first), least_lots([both, apart, first], first), answers([both, apart], first, [[5], [1]]), answers([both, apart], first, [[5], [2]]), fitting([both, apart], [[5], [1]])]
+[False, True, [[0, 1], [2]], ('sure', [3]), ('none',), [3, 2]]
+>>> half, same = ([2], [([[1]], [0]), ([[1]], [1])]), ([1], [([[1]], [0])])
+>>> [told([half], same), judge_pair([half], same, ([1], [2])), judge_pair([half], same, ([2], [3])), judge_pair([half], same, pair([half], same)), told([([1], [([[2]], [0])])], same), rule([([1], [([[2]], [0])])], same), judge_rule([([1], [([[2]], [10])])], ([1], [([[2]], [0])]), ([1], [([[1]], [-10])]))]
+[False, True, False, True, True, None, True]
+'''
+
+VIEWS = '''
+>>> from accountmaps.views import closes, depth, first_seen, judge_view, looked, view, wish
+>>> odd, five, third = ([2], [([[0]], [0]), ([[0]], [1])]), ([1], [([[1]], [5])]), ([3], [([[1]], [0]), ([[1]], [1]), ([[1]], [0])])
+>>> [closes(odd, five), closes(odd, third), judge_view(odd, five, view(odd, five, [2])), judge_view(odd, five, ([1], [([[-1]], [1])])), view(odd, third, [2])]
+[True, False, True, True, None]
+>>> swap, first = ([1, 1], [([[0, 1], [1, 0]], [0, 0])]), ([1, 1], [([[1, 0]], [0])])
+>>> [closes(first, swap), depth(first, [swap], 3), looked(first, [swap], 1), first_seen(first, [swap], [1, 2], [1, 3], 3), wish(first, [swap], [1, 2], [2], 2), first_seen(first, [swap], [1, 2], [1, 2], 3)]
+[False, 1, [([1, 1], [([[1, 0]], [0])]), ([1, 1], [([[0, 1]], [0])])], [0], [0], None]
+'''
+
+ORDERS = '''
+>>> from accountmaps.orders import apart_pairs, clash, clashes, classes, first_log, least_conflicts, merge_clash, merged, outcomes, pass_each_other, swaps
+>>> five, three, double, nought = ([1], [([[1]], [5])]), ([1], [([[1]], [3])]), ([1], [([[2]], [0])]), ([1], [([[0]], [0])])
+>>> [pass_each_other(five, three), clash(five, double), clash(five, three), clashes([five, three, double]), outcomes([five, double]), outcomes([five, three])]
+[True, [0], None, [(0, 2), (1, 2)], 2, 1]
+>>> [swaps([five, three, double], [1, 0, 2]), swaps([five, three, double], [2, 0, 1]), first_log([five, three]) == [three, five], merged([nought], [double], [([1], [([[1]], [0])])]), merge_clash([], [five], [double]), least_conflicts([five], [double]), apart_pairs([five], [double]), classes([five, three, double])]
+[[0], None, True, ([1], [([[0]], [0])]), [0], [([], [0]), ([0], [])], [(0, 0)], 4]
+'''
+
+BOXES = '''
+>>> from accountmaps.boxes import greatest_of, grown, how_many, hull, least_of, leaves, leaving, total
+>>> five, half = ([1], [([[1]], [5])]), ([2], [([[1]], [0]), ([[1]], [1])])
+>>> night = ([7], [([[0]], [1]), ([[0]], [2]), ([[0]], [3]), ([[0]], [4]), ([[0]], [5]), ([[0]], [6]), ([[0]], [0])])
+>>> [least_of(night, 0, [(3, 9)]), greatest_of(night, 0, [(3, 9)]), hull(five, [(-2, 4)]), leaves(five, [(0, 10)], [(0, 12)]), leaves(five, [(0, 7)], [(0, 12)])]
+[(0, [6]), (6, [5]), [(3, 9)], [8], None]
+>>> [leaving([half], [(0, 3)]), grown([half], [(0, 3)], 1), grown([five], [(0, 3)], 40), how_many(night, [(0, 13)], 2, [0]), total(night, 0, [(0, 13)]), total(five, 0, [(1, 10 ** 9)])]
+[(0, [3]), [(0, 4)], None, 8, 42, 500000005500000000]
+'''
+
 
 class TestExamples(unittest.TestCase):
     def check(self, text, name):
@@ -103,6 +142,18 @@ class TestExamples(unittest.TestCase):
 
     def test_readings(self):
         self.check(READINGS, "readings")
+
+    def test_reports(self):
+        self.check(REPORTS, "reports")
+
+    def test_views(self):
+        self.check(VIEWS, "views")
+
+    def test_orders(self):
+        self.check(ORDERS, "orders")
+
+    def test_boxes(self):
+        self.check(BOXES, "boxes")
 
     def test_readme(self):
         readme = pathlib.Path(__file__).resolve().parent.parent / "README.md"

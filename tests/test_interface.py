@@ -21,6 +21,17 @@ FUNCTIONS = {
         unlike_maps(house, names, most) needless(house, names, most)""",
     "texts": "show_formula(formula) show_script(script) show_house(house) show_state(state)",
     "readings": "read_formula(text) read_script(text) read_house(text) read_state(text)",
+    "reports": """told(reports, question) pair(reports, question) judge_pair(reports, question, told_pair)
+        fitting(reports, seen) answers(reports, question, seen) least_lots(reports, question) rule(reports, question)
+        judge_rule(reports, question, told_rule)""",
+    "views": """closes(report, form) view(report, form, moduli) judge_view(report, form, told_form)
+        looked(report, forms, deep) depth(report, forms, most) first_seen(report, forms, state, other, most)
+        wish(report, forms, state, results, most)""",
+    "orders": """pass_each_other(one, other) clash(one, other) clashes(log) outcomes(log) swaps(log, order)
+        first_log(log) merged(base, one, other) merge_clash(base, one, other) classes(log) apart_pairs(one, other)
+        least_conflicts(one, other)""",
+    "boxes": """least_of(form, result, box) greatest_of(form, result, box) hull(form, box) leaves(form, box, other)
+        leaving(forms, box) grown(forms, box, rounds) how_many(form, box, modulus, rests) total(form, result, box)""",
 }
 
 
