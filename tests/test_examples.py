@@ -114,6 +114,49 @@ BOXES = '''
 [(0, [3]), [(0, 4)], None, 8, 42, 500000005500000000]
 '''
 
+CELLS = '''
+>>> from accountmaps.cells import cells_for, fewest_keeps, first_early, frame_form, frame_of, framed, is_late, kept_as, same_kept, spills, stepwise
+>>> from accountmaps.houses import House
+>>> five, house = ([1], [([[1]], [5])]), House(["a"], [])
+>>> [kept_as([("u", 3), None], [9, -5]), kept_as([("s", 3)], [5]), frame_form([("u", 1)]), spills(five, [("u", 3)]), cells_for(five), cells_for(([3], [([[0]], [0]), ([[0]], [1]), ([[0]], [2])]))]
+[[1, -5], [-3], ([2], [([[0]], [0]), ([[0]], [1])]), [3], [None], [('u', 2)]]
+>>> script = [("put", "a", ("number", 5)), ("set", "a", ("rest", ("account", "a"), 3))]
+>>> [is_late(house, script, [("u", 3)]), first_early(house, script, [("u", 3)]), is_late(house, script[:1], [("u", 3)]), same_kept(five, ([1], [([[1]], [-3])]), [("u", 3)]), fewest_keeps(house, script, [("u", 3)]), frame_of([(-1, 2), (0, 9), (0, 99)])]
+[False, [3], True, True, [0], [('s', 3), ('u', 4), None]]
+'''
+
+PILES = '''
+>>> from accountmaps.houses import House
+>>> from accountmaps.piles import as_map, gain, highest, need, pile_form, program_of, run_on, same_programs, tidied
+>>> house, more = House(["cash"], []), [("read", "cash"), ("push", 3), ("plus",), ("write", "cash")]
+>>> [run_on(house, more, [5], [7]), need([("plus",)]), gain([("plus",)]), highest(more), pile_form(house, [("less",)]), as_map(house, more)]
+[([8], [7]), 2, -1, 2, ([1, 1, 1], [([[1, 0, 0], [0, -1, 1]], [0, 0])]), ([1], [([[1]], [3])])]
+>>> [tidied([("shift", 1, [1, 1]), ("shift", 2, [2, 1]), ("push", 1), ("shift", 1, [1])]), same_programs(house, more, program_of(house, [("put", "cash", ("number", 3))])), as_map(house, [("plus",)])]
+[[('shift', 1, [1, 1]), ('push', 1)], True, None]
+>>> run_on(house, [("choose", 2, [1], [("push", 10)], [("push", 20)])], [0], [4, 3])
+([0], [4, 10])
+'''
+
+UNDOING = '''
+>>> from accountmaps.undoing import amended, back, can_take_out, fallen_together, idle_maps, is_one_to_one, is_onto, never_made, taken_out, whole
+>>> five, double, turned, nought = ([1], [([[1]], [5])]), ([1], [([[2]], [0])]), ([1], [([[-1]], [0])]), ([1], [([[0]], [0])])
+>>> [is_one_to_one(double), is_onto(double), never_made(double), back(double), back(five), fallen_together(double), is_one_to_one(([2], [([[1]], [0]), ([[1]], [1])]))]
+[True, False, [-1], None, ([1], [([[1]], [-5])]), None, False]
+>>> [whole([five, turned]), can_take_out([five, double], 0), taken_out([five, double], 0), taken_out([five, turned], 0), amended([five, turned], 0, double), idle_maps([five, nought])]
+[([1], [([[-1]], [-5])]), True, None, ([1], [([[1]], [5])]), ([1], [([[2]], [10])]), [0]]
+'''
+
+DESKS = '''
+>>> from accountmaps.desks import Desk
+>>> from accountmaps.houses import House
+>>> desk = Desk(House(["cash", "stock"], []), [10, 3])
+>>> told = [desk.order("do put cash 5"), desk.branch("other"), desk.order("do move stock cash 1"), desk.switch("other"), desk.order("do set stock 0"), desk.order("lock stock"), desk.log()]
+>>> told
+['15 3', None, '16 2', [15, 3], '15 0', 'done', [[('put', 'cash', ('number', 5))], [('set', 'stock', ('number', 0))]]]
+>>> [desk.order("undo"), desk.order("undo"), desk.order("do put cash 1"), desk.order("merge main"), len(desk), desk.order("map"), desk.take_out(0), desk.forks(), desk.readable(["cash"])]
+['done', 'done', '16 3', '17 2', 6, 'plain 1 0 0 1 7 -1', [12, 2], ['main', 'other'], ['cash']]
+'''
+
 
 class TestExamples(unittest.TestCase):
     def check(self, text, name):
@@ -154,6 +197,18 @@ class TestExamples(unittest.TestCase):
 
     def test_boxes(self):
         self.check(BOXES, "boxes")
+
+    def test_cells(self):
+        self.check(CELLS, "cells")
+
+    def test_piles(self):
+        self.check(PILES, "piles")
+
+    def test_undoing(self):
+        self.check(UNDOING, "undoing")
+
+    def test_desks(self):
+        self.check(DESKS, "desks")
 
     def test_readme(self):
         readme = pathlib.Path(__file__).resolve().parent.parent / "README.md"

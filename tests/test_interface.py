@@ -2,6 +2,7 @@
 
 import importlib
 import inspect
+import re
 import unittest
 
 FUNCTIONS = {
@@ -32,6 +33,24 @@ FUNCTIONS = {
         least_conflicts(one, other)""",
     "boxes": """least_of(form, result, box) greatest_of(form, result, box) hull(form, box) leaves(form, box, other)
         leaving(forms, box) grown(forms, box, rounds) how_many(form, box, modulus, rests) total(form, result, box)""",
+    "cells": """kept_as(frame, state) frame_form(frame) framed(form, frame) stepwise(house, script, frame)
+        is_late(house, script, frame) first_early(house, script, frame) spills(form, frame)
+        same_kept(one, other, frame) cells_for(form) frame_of(box) fewest_keeps(house, script, frame)""",
+    "piles": """need(program) gain(program) run_on(house, program, state, pile) formula_program(formula)
+        program_of(house, script) pile_form(house, program) as_map(house, program) same_programs(house, one, other)
+        parted(house, one, other) tidied(program) highest(program)""",
+    "undoing": """is_one_to_one(form) fallen_together(form) is_onto(form) never_made(form) back(form) whole(log)
+        can_take_out(log, index) taken_out(log, index) amended(log, index, form) idle_maps(log)""",
+}
+
+
+# The classes with their methods, and their properties without brackets.
+CLASSES = {
+    ("houses", "House"): """__init__(accounts, scripts) accounts scripts __getitem__(at) __len__() __eq__(other)
+        with_script(name, script) without_script(name) users(name)""",
+    ("desks", "Desk"): """__init__(house, state) house state fork __len__() log() forks() locks() do(script) lock(name)
+        unlock(name) branch(name) switch(name) merge(name) take_out(index) undo() readable(names) program()
+        order(text)""",
 }
 
 
@@ -48,3 +67,16 @@ class TestInterface(unittest.TestCase):
                 self.assertEqual([thing.name for thing in found], things.split(", "))
                 self.assertEqual({(thing.kind, thing.default) for thing in found},
                                  {(inspect.Parameter.POSITIONAL_OR_KEYWORD, inspect.Parameter.empty)})
+
+    def test_classes(self):
+        for (file, name), told in CLASSES.items():
+            kind = getattr(importlib.import_module("accountmaps." + file), name)
+            self.assertEqual((kind.__name__, kind.__module__), (name, "accountmaps." + file))
+            for one in re.findall(r"[a-z_]+(?:\([a-z, ]*\))?", told):
+                method, _, things = one.rstrip(")").partition("(")
+                found = vars(kind)[method]
+                if "(" in one:
+                    named = [thing for thing in ["self"] + things.split(", ") if thing]
+                    self.assertEqual(list(inspect.signature(found).parameters), named)
+                else:
+                    self.assertIsInstance(found, property)

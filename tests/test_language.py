@@ -89,8 +89,10 @@ class TestLanguage(unittest.TestCase):
     def test_stars_and_keywords_of_builtins(self):
         for name, node in nodes(ast.Call):
             called = node.func.id if isinstance(node.func, ast.Name) else None
-            if any(isinstance(one, ast.Starred) for one in node.args):
-                self.assertIn(called, ["zip", "min", "max"], (name, node.lineno))
+            for one in node.args:
+                if isinstance(one, ast.Starred):
+                    self.assertIn(called, ["zip", "min", "max"], (name, node.lineno))
+                    self.assertIsInstance(one.value, ast.Name, (name, node.lineno))
             allowed = {"sorted": ["key", "reverse"], "min": ["key", "default"], "max": ["key", "default"],
                        "sum": ["start"], "enumerate": ["start"], "zip": ["strict"]}
             if called in BUILTINS + ["gcd", "lcm"]:
@@ -126,7 +128,8 @@ class TestLanguage(unittest.TestCase):
         """No loop over a name changes what has this name."""
         for name, node in nodes(ast.For):
             gone_over = {one.id for one in ast.walk(node.iter) if isinstance(one, ast.Name)}
-            if isinstance(node.iter, ast.Call) and node.iter.func.id in ("list", "range", "sorted"):
+            called = node.iter.func if isinstance(node.iter, ast.Call) else None
+            if isinstance(called, ast.Attribute) or called and called.id in ("list", "range", "sorted"):
                 gone_over = set()
             for one in [inner for row in node.body for inner in ast.walk(row)]:
                 if isinstance(one, ast.Call) and isinstance(one.func, ast.Attribute):
