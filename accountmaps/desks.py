@@ -4,7 +4,7 @@ from accountmaps.checks import check_index, check_known, check_names, check_stat
 from accountmaps.commands import read_command
 from accountmaps.compiling import script_words
 from accountmaps.copies import copied
-from accountmaps.deeds import changed, check_script_of, map_of, run
+from accountmaps.deeds import changed, map_of, run
 from accountmaps.errors import Clash, DoubleName, Locked, NothingToUndo
 from accountmaps.firsts import first_with_results
 from accountmaps.joining import table_behind
@@ -69,7 +69,6 @@ class Desk:
 
     def do(self, script):
         """Do a script at the end of the open fork, and return the state then."""
-        check_script_of(self._house, script)
         self._refuse_changes([script])
         log, state = self._opened()
         then = run(self._house, script, list(state))

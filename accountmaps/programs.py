@@ -22,7 +22,7 @@ def programs_in(word):
 
 def is_word(word):
     """Whether a word is one, but for what is within it."""
-    if len(word) == 0 or PARTS.get(word[0], 0) != len(word):
+    if PARTS.get(word[0], 0) != len(word):
         return False
     if word[0] == "shift":
         return word[1] >= 0 and all([1 <= place <= word[1] for place in word[2]])

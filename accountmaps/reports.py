@@ -93,8 +93,8 @@ def rule(reports, question):
 def judge_rule(reports, question, told_rule):
     """Whether a form makes of the reports' results those of a question, in every state."""
     check_forms_alike(reports + [question])
+    # Without a report nothing is of as many accounts as it should be, so the list needs no check of its own.
     check_form_with(told_rule, results_together(reports), results_in_form(question))
-    check_any(reports)
     _, spots = spots_of(looks_of(reports), table_of(question))
     return is_ruled(spots, table_of(told_rule))
 

@@ -8,7 +8,6 @@ from accountmaps.joining import all_turned, turns_of
 from accountmaps.lattices import unit
 from accountmaps.rests import all_rests
 from accountmaps.solving import solved
-from accountmaps.spots import gaps
 from accountmaps.tables import rows_behind, rows_for
 
 
@@ -137,15 +136,16 @@ def any_meet(bars, moduli):
 
 def meet(spots, moduli):
     """Whether the same can be seen in all of some spots, by rests alone: by no rest at all where a modulus is 0."""
-    start, looks, _ = spots[0]
-    many, others = len(start), len(spots) - 1
+    many, results = len(spots[0][0]), len(moduli)
     rows = []
-    for place, (_, other, _) in enumerate(spots[1:]):
-        for result, gap in enumerate(gaps(looks, other)):
-            turns = gap[:many] + (0,) * (many * place) + gap[many:-1] + (0,) * (many * (others - 1 - place))
-            wholes = unit(place * len(looks) + result, others * len(looks))
-            rows.append(turns + tuple([moduli[result] * part for part in wholes]) + gap[-1:])
-    return solved(many * len(spots) + others * len(looks), rows) is not None
+    # What is seen is, in each spot, by its turns and some wholes of the moduli, one and the same list of integers.
+    for place, (_, looks, _) in enumerate(spots):
+        for result, look in enumerate(looks):
+            same = unit(result, results)
+            own = list(look[:-1]) + [modulus * part for modulus, part in zip(moduli, same)]
+            blocks = [own if other == place else [0] * (many + results) for other in range(len(spots))]
+            rows.append([-part for part in same] + [part for block in blocks for part in block] + [look[-1]])
+    return solved(results + len(spots) * (many + results), rows) is not None
 
 
 def can_be_ruled(spots):

@@ -23,8 +23,7 @@ def without_doubles(table):
     found = {}
     for result in zip(*pieces):
         found[result] = True
-    results = list(found)
-    return moduli, [tuple([result[place] for result in results]) for place in range(len(pieces))]
+    return moduli, [tuple([result[place] for result in found]) for place in range(len(pieces))]
 
 
 def spots_of(looks, asks):

@@ -36,6 +36,15 @@ def spoil(thing):
         one.append("spoilt")
 
 
+def refused(test, wrong, error, *calls):
+    """Assert that all calls refuse what is wrong, with a class of errors and a copy of it with lists of its own."""
+    for call in calls:
+        kind, held = error_of(call)
+        test.assertEqual((kind, held), (error, wrong))
+        test.assertTrue(are_apart(held))
+        test.assertFalse({id(one) for one in lists_within(held)} & {id(one) for one in lists_within(wrong)})
+
+
 def plain_value(formula, amounts):
     word = formula[0]
     if word == "number":

@@ -13,7 +13,7 @@ from accountmaps.errors import InvalidBox, InvalidCell, InvalidForm, InvalidStat
 from accountmaps.houses import House
 from accountmaps.maps import alike, at, joined, least, same_map
 from accountmaps.rounds import comes_round
-from tests.helping import are_apart, cases, error_of, form_at, lists_within, plain_value, some_calm_map, some_form
+from tests.helping import are_apart, cases, error_of, form_at, plain_deed, plain_value, refused, some_calm_map, some_form
 from tests.helping import some_results, spoil, spoilt_forms, states_for, told_wider
 
 CELLS = [(word, bits) for word in "us" for bits in range(1, 5)]
@@ -62,16 +62,8 @@ class Keeper:
 
     def deed(self, deed, amounts, keeps):
         word = deed[0]
-        if word == "set":
-            amounts[deed[1]] = plain_value(deed[2], amounts)
-        elif word == "put":
-            amounts[deed[1]] += plain_value(deed[2], amounts)
-        elif word == "move":
-            moved = plain_value(deed[3], amounts)
-            amounts[deed[1]] -= moved
-            amounts[deed[2]] += moved
-        elif word == "swap":
-            amounts[deed[1]], amounts[deed[2]] = amounts[deed[2]], amounts[deed[1]]
+        if word in ("set", "put", "move", "swap"):
+            plain_deed({}, deed, amounts)
         elif word == "do":
             self.script(self.scripts[deed[1]], amounts, keeps)
         elif word == "times":
@@ -400,10 +392,7 @@ class TestErrors(unittest.TestCase):
         for wrong in list(spoilt_forms(good)) + [some_results(random.Random(962), [1, 1], 1, 2)]:
             for call in (lambda: framed(wrong, [("u", 9)]), lambda: spills(wrong, []), lambda: same_kept(wrong, (), [()]),
                          lambda: same_kept(good, wrong, [("u", 9)]), lambda: framed(frame=[], form=wrong)):
-                kind, held = error_of(call)
-                self.assertEqual((kind, held), (InvalidForm, wrong))
-                self.assertTrue(are_apart(held))
-                self.assertFalse({id(one) for one in lists_within(held)} & {id(one) for one in lists_within(wrong)})
+                refused(self, wrong, InvalidForm, call)
         self.assertEqual(error_of(same_kept, good, FIVE, []), (InvalidForm, FIVE))
         for wrong in spoilt_forms(some_results(random.Random(963), [2, 1], 3, 2)):
             self.assertEqual(error_of(cells_for, wrong), (InvalidForm, wrong))

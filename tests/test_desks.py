@@ -218,8 +218,11 @@ class TestSteps(unittest.TestCase):
                          [[1, 2, 3], "main", [], ["main"], [], 0])
         self.assertEqual(desk.house, SHOP)
         state.append(4)
+        state[0] = 9
         desk.state.append(5)
         self.assertEqual(desk.state, [1, 2, 3])
+        desk.do(put("cash", 1))
+        self.assertEqual(desk.take_out(0), [1, 2, 3])
         self.assertNotEqual(desk, Desk(SHOP, [1, 2, 3]))
         for wrong in ([], [1, 2], [1, 2, 3, 4]):
             self.assertEqual(error_of(Desk, SHOP, wrong), (InvalidState, wrong))

@@ -6,7 +6,7 @@ from accountmaps.errors import InvalidModulus, InvalidState, InvalidWord, TooSho
 from accountmaps.houses import House
 from accountmaps.piles import as_map, formula_program, gain, highest, need, parted, pile_form, program_of, run_on
 from accountmaps.piles import same_programs, tidied
-from tests.helping import are_apart, error_of, lists_within
+from tests.helping import error_of, refused
 
 HOUSE = House(["cash", "day"], [])
 WRONG = [("shift", -1, []), ("shift", 0, [1]), ("shift", 2, [1, 3]), ("shift", 2, [2, 0]), ("shift", 3, [-1]),
@@ -14,17 +14,13 @@ WRONG = [("shift", -1, []), ("shift", 0, [1]), ("shift", 2, [1, 3]), ("shift", 2
          ("choose", 2, [1, 0], [], []), ("choose", 3, [1, 1], [], []), ("choose", 3, [-1], [], []), ("repeat", -1, []),
          ("choose", 2, [1], [("push", 1)], []), ("choose", 1, [0], [], [("plus",)]),
          ("choose", 0, [], [("rest", 0)], []), ("repeat", -5, [("rest", 0)]),
-         ("choose", 2, [0, 0], [("push", 1)], [("shift", 1, [2])])]
+         ("choose", 2, [0, 0], [("push", 1)], [("shift", 1, [2])]), ("turn",), ("plus", 1), ("push",)]
 LAST = [("rest", 0), ("read", "none")]
 
 
 class TestWords(unittest.TestCase):
     def check(self, wrong, *calls):
-        for call in calls:
-            kind, held = error_of(call)
-            self.assertEqual((kind, held), (InvalidWord, wrong))
-            self.assertTrue(are_apart(held))
-            self.assertFalse({id(one) for one in lists_within(held)} & {id(one) for one in lists_within(wrong)})
+        refused(self, wrong, InvalidWord, *calls)
 
     def test_first_word(self):
         for wrong in WRONG:

@@ -351,6 +351,9 @@ class TestSamePrograms(unittest.TestCase):
         rare = [("choose", 60, [59], [("times", 2)], [("times", 1)])]
         at_rest = [("shift", 1, [1, 1])]
         self.assertFalse(self.check(["cash"], at_rest + rare, at_rest + [("choose", 1, [0], [], [])]))
+        # They part in all states but one.
+        self.assertFalse(self.check(["cash"], [("read", "cash"), ("times", 2), ("write", "cash")],
+                                    [("read", "cash"), ("push", 1), ("plus",), ("write", "cash")]))
         one, other = [("push", 0), ("rest", 1)], [("push", 0)]
         self.assertTrue(same_programs(other=other, one=one, house=HOUSE))
         self.assertIsNone(parted(other=other, one=one, house=HOUSE))

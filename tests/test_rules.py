@@ -61,7 +61,7 @@ class TestRules(unittest.TestCase):
 
     def test_where_there_is_one(self):
         chance = random.Random(402)
-        for moduli in LOTS * 9:
+        for moduli in LOTS * 6:
             results = chance.randint(1, 2)
             if results == 2 and chance.random() < 0.5:
                 reports = [small_report(chance, moduli, 1), small_report(chance, moduli, 1)]
@@ -72,6 +72,7 @@ class TestRules(unittest.TestCase):
             question = joined(stacked(reports), ruled)
             if len(all_rests(question[0])) <= 60:
                 self.assertTrue(self.check(reports, question))
+                self.assertLessEqual(len(rule(reports, question)[1]), len(ruled[1]))
                 self.assertTrue(judge_rule(reports, question, ruled))
                 self.assertTrue(judge_rule(reports, question, told_wider(ruled, [2] * results)))
 
@@ -122,11 +123,31 @@ class TestRules(unittest.TestCase):
         apart = ([2, 1], [([[1, 0], [1, 0]], [0, 0]), ([[1, 0], [-1, 0]], [0, 0])])
         self.assertTrue(self.check([apart], sum_of))
         # Three lines through one thing seen, of which any two have a piece together but not all three.
-        meeting = ([3], [([[1], [0]], [0, 0]), ([[0], [1]], [0, -1]), ([[1], [1]], [-2, -2])])
-        for often in (2, 3):
-            asks = ([3], [([[1]], [0]), ([[1]], [-1]), ([[often]], [-2 * often])])
-            self.assertTrue(told([meeting], asks))
-            self.assertEqual(self.check([meeting], asks), often == 2)
+        for first, second in ((0, 0), (5, -7), (-20, 16)):
+            meeting = ([3], [([[1], [0]], [first, second]), ([[0], [1]], [first, second - 1]),
+                             ([[1], [1]], [first - 2, second - 2])])
+            for often in (2, 3):
+                asks = ([3], [([[1]], [0]), ([[1]], [-1]), ([[often]], [-2 * often])])
+                self.assertTrue(told([meeting], asks))
+                self.assertEqual(self.check([meeting], asks), often == 2)
+        # The first line meets both others, but these do not meet: so all three need not have a piece together.
+        for first, second in ((0, 0), (5, -7), (-20, 16), (1, 1)):
+            parted = ([3], [([[1], [0]], [first, second]), ([[0], [1]], [first, second - 1]),
+                            ([[2], [2]], [first - 1, second - 4])])
+            for often in (2, 3, 5):
+                asks = ([3], [([[1]], [0]), ([[1]], [-1]), ([[2 * often]], [3 - 4 * often])])
+                self.assertTrue(self.check([parted], asks))
+                self.assertEqual(rule([parted], asks)[0], [1, 1] if often == 2 else [2, 1])
+
+    def test_lines_with_more_accounts(self):
+        # The same lines, each by an account of its own: what is seen in one grows by the others, too.
+        for first, second in ((0, 0), (-3, 11)):
+            three = ([3, 1], [([[1, 3], [0, 0]], [first, second]), ([[0, 0], [1, 3]], [first, second - 1]),
+                              ([[1, 3], [1, 3]], [first - 2, second - 2])])
+            for often in (2, 3):
+                asks = ([3, 1], [([[1, 3]], [0]), ([[1, 3]], [-1]), ([[often, 3 * often]], [-2 * often])])
+                self.assertTrue(told([three], asks))
+                self.assertEqual(self.check([three], asks), often == 2)
 
     def test_points(self):
         points = ([6], [([[0], [0]], list(point)) for point in ((0, 0), (20, -20), (3, 5), (3, -5), (-20, 7), (1, 1))])

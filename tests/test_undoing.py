@@ -10,8 +10,8 @@ from accountmaps.maps import alike, joined, least, matrices, same_map
 from accountmaps.reports import fitting, judge_rule, told
 from accountmaps.undoing import amended, back, can_take_out, fallen_together, idle_maps, is_one_to_one, is_onto
 from accountmaps.undoing import never_made, taken_out, whole
-from tests.helping import are_apart, error_of, form_at, is_least, lists_within, some_calm_map, some_form, some_results
-from tests.helping import spoil, spoilt_forms, states_for, states_in_order, told_wider
+from tests.helping import are_apart, error_of, form_at, is_least, refused, some_calm_map, some_form
+from tests.helping import some_results, spoil, spoilt_forms, states_for, states_in_order, told_wider
 
 FIVE, DOUBLE, TURNED, NOUGHT = [([1], [([[often]], [more])]) for often, more in ((1, 5), (2, 0), (-1, 0), (0, 0))]
 LOTS = [[1], [2], [3], [6], [1, 1], [2, 1], [2, 2], [1, 1, 1], [2, 1, 1], [1] * 4]
@@ -292,33 +292,27 @@ class TestLogs(unittest.TestCase):
 
 
 class TestErrors(unittest.TestCase):
-    def check(self, wrong, error, *calls):
-        for call in calls:
-            kind, held = error_of(call)
-            self.assertEqual((kind, held), (error, wrong))
-            self.assertTrue(are_apart(held))
-            self.assertFalse({id(one) for one in lists_within(held)} & {id(one) for one in lists_within(wrong)})
-
     def test_forms(self):
         two = some_form(random.Random(1141), [2, 1], 3)
         for wrong in list(spoilt_forms(two)) + [some_results(random.Random(1142), [1, 1], 1, 2), FIVE]:
             logs = [[two, wrong], [two, two, wrong, ()]] + ([] if wrong == FIVE else [[wrong, ()]])
             for log in logs:
-                self.check(wrong, InvalidForm, lambda: whole(log), lambda: can_take_out(log, 9), lambda: taken_out(log, -1),
-                           lambda: amended(log, 9, ()), lambda: idle_maps(log), lambda: amended(form=(), index=7, log=log))
-            self.check(wrong, InvalidForm, lambda: amended([two], 9, wrong))
+                refused(self, wrong, InvalidForm, lambda: whole(log), lambda: can_take_out(log, 9),
+                        lambda: taken_out(log, -1), lambda: amended(log, 9, ()), lambda: idle_maps(log),
+                        lambda: amended(form=(), index=7, log=log))
+            refused(self, wrong, InvalidForm, lambda: amended([two], 9, wrong))
             if wrong != FIVE:
-                self.check(wrong, InvalidForm, lambda: is_one_to_one(wrong), lambda: fallen_together(wrong),
-                           lambda: is_onto(wrong), lambda: never_made(wrong), lambda: back(form=wrong),
-                           lambda: amended([], 0, wrong))
+                refused(self, wrong, InvalidForm, lambda: is_one_to_one(wrong), lambda: fallen_together(wrong),
+                        lambda: is_onto(wrong), lambda: never_made(wrong), lambda: back(form=wrong),
+                        lambda: amended([], 0, wrong))
 
     def test_empty_logs_and_indexes(self):
-        self.check(0, InvalidNumber, lambda: whole([]), lambda: can_take_out([], 5), lambda: taken_out([], -1),
-                   lambda: amended([], 7, FIVE), lambda: idle_maps([]), lambda: taken_out(index=3, log=[]))
+        refused(self, 0, InvalidNumber, lambda: whole([]), lambda: can_take_out([], 5), lambda: taken_out([], -1),
+                lambda: amended([], 7, FIVE), lambda: idle_maps([]), lambda: taken_out(index=3, log=[]))
         for wrong in (-1, 2, 10 ** 30):
-            self.check(wrong, InvalidNumber, lambda: can_take_out([FIVE, NOUGHT], wrong),
-                       lambda: taken_out([FIVE, FIVE], wrong), lambda: amended([FIVE, FIVE], wrong, FIVE),
-                       lambda: taken_out(index=wrong, log=[FIVE, FIVE]))
+            refused(self, wrong, InvalidNumber, lambda: can_take_out([FIVE, NOUGHT], wrong),
+                    lambda: taken_out([FIVE, FIVE], wrong), lambda: amended([FIVE, FIVE], wrong, FIVE),
+                    lambda: taken_out(index=wrong, log=[FIVE, FIVE]))
         self.assertIsNone(error_of(taken_out, [FIVE, FIVE], 1))
 
     def test_what_is_passed_stays(self):
