@@ -4,7 +4,7 @@ from accountmaps.copies import copied
 from accountmaps.errors import InvalidNumber, InvalidState
 from accountmaps.forms import accounts_in_form, check_form_of, check_form_with, results_in_form
 from accountmaps.rests import least_way
-from accountmaps.ruling import can_be_ruled, first_ruled, is_ruled
+from accountmaps.ruling import first_ruled, is_ruled
 from accountmaps.solving import point_unlike
 from accountmaps.spots import parted_states, seen_by_spots, spots_of, stacked, state_of
 from accountmaps.tables import form_of_table, results_at, rows_at, table_of
@@ -84,9 +84,10 @@ def rule(reports, question):
     if parted_states(looks, asks) is not None:
         return None
     _, spots = spots_of(looks, asks)
-    if not can_be_ruled(spots):
+    found = first_ruled(spots, results_together(reports))
+    if found is None:
         return None
-    moduli, pieces = first_ruled(spots, results_together(reports))
+    moduli, pieces = found
     return form_of_table(least_way(moduli, pieces))
 
 

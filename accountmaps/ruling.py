@@ -4,11 +4,17 @@ A lot of spots has one piece of a rule together if one row for each result of th
 seen, in all of these spots. All of this is by the turns of the spots [spots.py].
 """
 
+from math import lcm
+
 from accountmaps.joining import all_turned, turns_of
 from accountmaps.lattices import unit
-from accountmaps.rests import all_rests
+from accountmaps.rests import all_rests, prime_factors
 from accountmaps.solving import solved
 from accountmaps.tables import rows_behind, rows_for
+
+# What the moduli of a rule that is told multiply to at most, and those of any form that comes out.
+FEW = 60
+MANY = 600
 
 
 def rests_seen(spot, moduli):
@@ -86,20 +92,65 @@ def ruled_with(spots, moduli):
 
 
 def first_ruled(spots, many):
-    """The tuple (moduli, pieces) of a rule, which there is, for so many results that are seen: with moduli that
-    multiply to as little as can be."""
+    """The tuple (moduli, pieces) of a rule for so many results that are seen, None if there is none: with moduli that
+    multiply to as little as can be, as far as forms go that are asked for."""
     bars = []
-    whole = 0
-    while True:
-        whole = whole + 1
+    found = ruled_between(spots, many, 1, FEW, bars)
+    # Most rules are found before it is worth while to ask whether there is one.
+    if found is None and can_be_ruled(spots):
+        found = ruled_between(spots, many, FEW + 1, MANY, bars)
+        if found is None:
+            found = far_ruled(spots, many, bars)
+    return found
+
+
+def ruled_between(spots, many, low, high, bars):
+    """The same with moduli that multiply to a number from low to high."""
+    for whole in range(low, high + 1):
         for moduli in moduli_with(whole, many):
-            if not any_meet(bars, moduli):
-                lots = lots_seen(spots, moduli)
-                known, bar = rows_by_lots(spots, lots)
-                if bar is None:
-                    return moduli, pieces_by_lots(lots, known, moduli, len(spots[0][2]))
-                # All moduli by which these few spots are not parted are barred, too.
-                bars.append(least_bar([spots[index] for index in bar]))
+            pieces = ruled_past(spots, moduli, bars)
+            if pieces is not None:
+                return moduli, pieces
+    return None
+
+
+def ruled_past(spots, moduli, bars):
+    """The pieces of a rule with just these moduli, None if there is none: then a lot of a few spots that these
+    moduli do not part, and that has no piece together, is among the bars, which bar other moduli, too."""
+    if any_meet(bars, moduli):
+        return None
+    lots = lots_seen(spots, moduli)
+    known, bar = rows_by_lots(spots, lots)
+    if bar is None:
+        return pieces_by_lots(lots, known, moduli, len(spots[0][2]))
+    bars.append(least_bar([spots[index] for index in bar]))
+    return None
+
+
+def far_ruled(spots, many, bars):
+    """The tuple (moduli, pieces) of a rule, which there is, with moduli of which none can be divided."""
+    moduli, pieces = (1,) * many, None
+    while pieces is None:
+        for bar in bars:
+            if meet(bar, moduli):
+                power = parting_power(bar, many)
+                moduli = tuple([lcm(modulus, power) for modulus in moduli])
+        pieces = ruled_past(spots, moduli, bars)
+    for place in range(many):
+        for prime in prime_factors(moduli[place]):
+            less = moduli[:place] + (moduli[place] // prime,) + moduli[place + 1:]
+            found = ruled_past(spots, less, bars)
+            if found is not None:
+                moduli, pieces = less, found
+    return moduli, pieces
+
+
+def parting_power(spots, many):
+    """The least modulus, for all of so many results, by whose rests not the same is seen in all of some spots."""
+    power = 2
+    while meet(spots, [power] * many):
+        power = power + 1
+    return power
 
 
 def moduli_with(whole, many):

@@ -5,6 +5,9 @@ import unittest
 
 from accountmaps.maps import joined, least
 from accountmaps.reports import judge_rule, rule, told
+from accountmaps.ruling import ruled_with
+from accountmaps.spots import spots_of
+from accountmaps.tables import table_of
 from tests.helping import all_rests, are_apart, form_at, is_least, some_results, spoil, states_for, states_in_order
 from tests.helping import told_wider
 from tests.test_reports import SAME, TWICE, alike_moduli, clock, stacked
@@ -50,7 +53,8 @@ class TestRules(unittest.TestCase):
         if made is None:
             return False
         self.assertTrue(told(reports, question))
-        self.assertTrue(is_least(made) and made == least(made) and are_apart(made))
+        self.assertTrue(made == least(made) and are_apart(made))
+        self.assertTrue(len(made[1]) > 100 or is_least(made))
         self.assertEqual(len(made[0]), len(seen_in(reports, [0] * len(question[0]))))
         self.assertTrue(judge_rule(reports, question, made))
         chance = random.Random(401)
@@ -162,12 +166,25 @@ class TestRules(unittest.TestCase):
             self.assertIsNone(rule(reports, question))
 
     def test_moduli_that_are_great(self):
-        for report, question in (
-                (([2], [([[3], [0]], [0, 1]), ([[0], [3]], [1, 0])]), ([2], [([[3]], [0]), ([[0]], [1])])),
-                (([6], [([[3]], [0]), ([[3]], [1]), ([[3]], [2]), ([[-3]], [20]), ([[-3]], [1]), ([[2]], [0])]), clock(6)),
-                (([3, 2], [([[1, 3], [2, 1]], [0, 0])] * 6), ([3, 2], [([[1, 3]], [one]) for one in range(6)]))):
-            if told([report], question):
-                self.check([report], question)
+        """Where lines lie close to one another, a rule must have great moduli: but it is found."""
+        lots = [([([[3], [2]], [13, -17]), ([[-3], [-2]], [13, 16]), ([[2], [3]], [-10, -12]), ([[-1], [3]], [4, 4]),
+                  ([[3], [0]], [-11, -12]), ([[-1], [0]], [-13, 4])], [(5, 1), (-3, 3), (5, -3), (-4, -3), (3, 0), (1, 1)]),
+                ([([[1], [1]], [-9, 15]), ([[-2], [0]], [-18, 16]), ([[1], [-2]], [4, 17]), ([[-1], [2]], [-15, -16]),
+                  ([[-3], [2]], [-12, 12])], [(-2, -2), (0, 0), (1, 3), (-3, -2), (2, -3)]),
+                ([([[-3], [-3]], [14, -15]), ([[3], [1]], [-6, -9]), ([[-2], [-2]], [1, -6]), ([[-2], [3]], [3, -7]),
+                  ([[0], [0]], [-9, -1])], [(0, 2), (-3, 3), (0, 1), (2, 0), (0, -2)])]
+        for pieces, asked in lots:
+            report = ([len(pieces)], pieces)
+            question = ([len(pieces)], [([[often]], [more]) for often, more in asked])
+            self.assertTrue(self.check([report], question))
+            made = rule([report], question)
+            self.assertGreater(len(made[1]), 600)
+            # None of the moduli can be divided.
+            for place, modulus in enumerate(made[0]):
+                for prime in (2, 3, 5, 7, 11):
+                    if modulus % prime == 0:
+                        less = made[0][:place] + [modulus // prime] + made[0][place + 1:]
+                        self.assertIsNone(ruled_with(spots_of(table_of(report), table_of(question))[1], less))
 
 
 class TestJudgeRule(unittest.TestCase):
