@@ -205,7 +205,7 @@ class TestLate(unittest.TestCase):
             right = [state for state in in_order(kept_states(frame, far))
                      if keeper.run(script, state) != keeper.run(script, state, [])]
             self.assertEqual(early, right[0] if right else None)
-        self.assertGreater(min(kinds.values()), 30)
+        self.assertGreater(min(kinds.values()), 15)
 
     def test_as_the_head_says(self):
         script = [("put", "a", ("number", 5)), ("set", "a", ("rest", ("account", "a"), 3))]

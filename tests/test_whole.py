@@ -16,11 +16,11 @@ from accountmaps.plans import fewest, unlike_maps
 from accountmaps.reaching import against, way
 from accountmaps.readings import read_house, read_script
 from accountmaps.reports import answers, judge_rule, rule, told
-from accountmaps.rounds import after, comes_round, comes_round_at, power
+from accountmaps.rounds import after, both, comes_round, comes_round_at, power, times_when
 from accountmaps.texts import show_house, show_script
 from accountmaps.undoing import amended, back, can_take_out, idle_maps, taken_out, whole
 from accountmaps.views import closes, wish
-from tests.helping import cases, form_at, some_formula, states_for, weighted_sum
+from tests.helping import all_rests, cases, form_at, some_formula, states_for, weighted_sum
 from tests.test_desks import Plain, put, some_script
 from tests.test_undoing import common, some_map, step, turn
 
@@ -32,6 +32,12 @@ def small_cases(seed, many, lots, most=60):
         form = map_of(house, script)
         if common(form) <= most:
             yield chance, house, script, form
+
+
+def is_on(calendar, times):
+    """Whether a number of times is one of a calendar's."""
+    early, first, length, found = calendar
+    return times in early if times < first else (times - first) % length in found
 
 
 class TestLeadingBack(unittest.TestCase):
@@ -69,7 +75,9 @@ class TestLeadingBack(unittest.TestCase):
                 self.assertEqual(whole(log + [made]), without)
                 backs = [back(form) for form in log[index:]]
                 self.assertEqual(whole(log + backs[::-1] + log[index + 1:]), without)
-                self.assertEqual(index in idle_maps(log), alike(made, same_map(accounts)))
+                # A map without which the log does the same is led back by what leaves all that comes of the log.
+                self.assertEqual(index in idle_maps(log), joined(whole(log), made) == whole(log))
+                self.assertTrue(index in idle_maps(log) or not alike(made, same_map(accounts)))
                 other = some_map(chance, [1] * accounts)
                 if common(*log, other) <= 60:
                     self.assertEqual(whole(log + [amended(log, index, other)]),
@@ -261,3 +269,31 @@ class TestFramesAndRests(unittest.TestCase):
             plan = fewest(more, ["one"], state, goal, 4)
             self.assertEqual(wish(same_map(len(state)), [form], state, goal, 4), [0] * len(plan))
             self.assertEqual(after(form, state, len(plan), 7), [amount % 7 for amount in goal])
+
+    def test_calendars_of_two_wishes(self):
+        """Both of two wishes of one state are met at the numbers of `both` of their calendars."""
+        for chance, _, script, form in small_cases(1345, 60, [[1, 2], [3], [2, 3]]):
+            state = [chance.randint(-3, 3) for _ in form[0]]
+            weights = [[chance.randint(-2, 2) for _ in form[0]] for _ in range(2)]
+            moduli = [chance.choice([2, 3]), 2]
+            if math.lcm(6, *form[0]) ** len(state) > 600:
+                continue
+            wishes = [times_when(form, state, row, modulus, chance.randrange(modulus))
+                      for row, modulus in zip(weights, moduli)]
+            for times in range(30):
+                self.assertEqual(is_on(both(*wishes), times), all(is_on(told_wish, times) for told_wish in wishes))
+
+    def test_each_state_comes_round(self):
+        """A map comes round exactly if each state does, behind the greatest first number and the common length."""
+        found = {True: 0, False: 0}
+        for _, _, _, form in small_cases(1346, 120, [[1, 2], [3], [1]]):
+            modulus = math.lcm(*form[0])
+            states = [list(rests) for rests in all_rests([2 * modulus] * len(form[0]))][:600]
+            lots = [comes_round_at(form, state) for state in states]
+            again = comes_round(form)
+            if again is not None:
+                self.assertEqual((max(first for first, _ in lots), math.lcm(*[length for _, length in lots])), again)
+            else:
+                self.assertTrue(None in lots or modulus > 2)
+            found[again is not None] += 1
+        self.assertGreater(min(found.values()), 10)
